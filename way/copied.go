@@ -1,0 +1,25 @@
+package way
+
+import (
+	"bytes"
+	"slices"
+
+	"apostille/api"
+)
+
+// copied is a certificate in new memory.
+func copied(c api.Cert) api.Cert {
+	c.Serial = slices.Clone(c.Serial)
+	c.Issuer = slices.Clone(c.Issuer)
+	c.Subject = slices.Clone(c.Subject)
+	c.Key.N = slices.Clone(c.Key.N)
+	c.Key.P.X = slices.Clone(c.Key.P.X)
+	c.Key.P.Y = slices.Clone(c.Key.P.Y)
+	var l []api.Ext
+	for _, x := range c.Exts {
+		l = append(l, api.Ext{ID: bytes.Clone(x.ID), Critical: x.Critical, Value: bytes.Clone(x.Value)})
+	}
+	c.Exts = l
+	c.Sig = bytes.Clone(c.Sig)
+	return c
+}
