@@ -1,4 +1,6 @@
-package way
+// Package copied is things in new memory, for layers that answer or keep what
+// they were handed.
+package copied
 
 import (
 	"bytes"
@@ -7,8 +9,8 @@ import (
 	"apostille/api"
 )
 
-// copied is a certificate in new memory.
-func copied(c api.Cert) api.Cert {
+// Cert is a certificate.
+func Cert(c api.Cert) api.Cert {
 	c.Serial = slices.Clone(c.Serial)
 	c.Issuer = slices.Clone(c.Issuer)
 	c.Subject = slices.Clone(c.Subject)
@@ -22,4 +24,13 @@ func copied(c api.Cert) api.Cert {
 	c.Exts = l
 	c.Sig = bytes.Clone(c.Sig)
 	return c
+}
+
+// Trust is trust.
+func Trust(t api.Trust) api.Trust {
+	var l []api.Cert
+	for _, a := range t.Anchors {
+		l = append(l, Cert(a))
+	}
+	return api.Trust{Anchors: l, Pin: bytes.Clone(t.Pin)}
 }
