@@ -161,7 +161,7 @@ func TestOctetsAndBits(t *testing.T) {
 
 // P13.1, P13.2
 func TestID(t *testing.T) {
-	for i, b := range [][]byte{{0}, {0x55, 0x1d, 0x13}, {0x81, 0}, {0x81, 0x80, 0}, {0xff, 0x7f, 0x85, 0x80, 0x01}, make([]byte, 20), {127}} {
+	for i, b := range [][]byte{{0}, {0x55, 0x1d, 0x13}, {0x81, 0}, {0x81, 0x80, 0}, {0x81, 0x80, 0x80, 0}, {0xff, 0x7f, 0x85, 0x80, 0x01}, make([]byte, 20), {127}} {
 		n := atom.ID(b)
 		if got, ok := atom.GetID(n); !tlv.Same(n, prim(6, b...)) || !ok || !bytes.Equal(got, b) {
 			t.Error(i)

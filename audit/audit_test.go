@@ -188,6 +188,13 @@ func TestWay(t *testing.T) {
 			}
 		}
 	}
+	// One need not be named for itself.
+	l, anchor = chain(1, func(i int) []api.Ext {
+		return []api.Ext{sample.Basic(-1), sample.Only(sample.Name("o", "c0"))}
+	})
+	if !audit.Way([]api.Cert{l[0], anchor}, []api.Cert{anchor}, nil, now) {
+		t.Error("an anchor that is named for the first one alone")
+	}
 	// The first one holds.
 	l, anchor = chain(1, any)
 	l[0].Till = now - 1

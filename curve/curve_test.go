@@ -99,8 +99,12 @@ func TestIs(t *testing.T) {
 	}
 	// A point whose X is 0: its Y is the root of B.
 	root := new(big.Int).ModSqrt(wide(curve.B()), wide(curve.P()))
-	if !curve.Is(api.Point{Y: of(root)}) {
+	p := api.Point{Y: of(root)}
+	if !curve.Is(p) || curve.Is(api.Point{X: curve.P(), Y: p.Y}) || curve.Is(api.Point{X: g.X, Y: curve.P()}) {
 		t.Error("a point with X 0")
+	}
+	if !curve.Same(curve.Add(p, inf), p) || !curve.Same(curve.Times(api.Nat{1}, p), p) || !curve.Same(curve.Times(curve.N(), p), inf) || !curve.Same(curve.Add(p, minus(p)), inf) {
+		t.Error("sums of a point with X 0")
 	}
 }
 

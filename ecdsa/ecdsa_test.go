@@ -173,6 +173,24 @@ func TestDigests(t *testing.T) {
 	}
 }
 
+// P11.1, P11.2: S at its edges: of z, the secret number times R and S 1 is well.
+func TestEdgesOfS(t *testing.T) {
+	n := curve.N()
+	_, r, _ := nat.Div(curve.Times(api.Nat{5}, curve.G()).X, n)
+	rd, _ := mod.Mul(r, api.Nat{7}, n)
+	z, _ := mod.Sub(api.Nat{5}, rd, n)
+	d, _ := nat.Bytes(z, 32)
+	last, _ := nat.Sub(n, api.Nat{1})
+	for i, c := range []struct {
+		s    api.Nat
+		want bool
+	}{{nil, false}, {api.Nat{1}, true}, {api.Nat{2}, false}, {last, true}, {n, false}, {nat.Add(n, api.Nat{1}), false}} {
+		if ecdsa.Verify(key(7), d, api.Pair{R: r, S: c.s}) != c.want {
+			t.Error(i)
+		}
+	}
+}
+
 // P11.2
 func TestOtherS(t *testing.T) {
 	d := digest("d")

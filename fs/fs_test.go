@@ -105,6 +105,9 @@ func TestMountRefuses(t *testing.T) {
 	if f, e := fs.Mount(d); f != nil || e != api.ErrDisk {
 		t.Error("40 places", e)
 	}
+	if _, f := blank(t, 41); f.Left() != 1 {
+		t.Error("41 places")
+	}
 	sector := func(n node.Node) []byte { return node.Bytes(n) }
 	one := node.Node{Name: "a", Size: 3, Places: []int{41}}
 	for i, c := range []struct {

@@ -321,6 +321,41 @@ func TestCommitOfMany(t *testing.T) {
 	}
 }
 
+// P2.2, P2.3: a log of any length is ended by Open, its places as far as they go.
+func TestLongLogs(t *testing.T) {
+	for _, n := range []int{1, 31, 32, 33, 64, 65, api.MaxTx} {
+		sheets := (n + 31) / 32
+		d := ours(t, 600)
+		var l []api.Write
+		for k := range n {
+			l = append(l, api.Write{At: 599 - 3*k, Data: full(byte(k + 1))})
+		}
+		// The log's writes, a Flush, the mark, a Flush, and then the crash.
+		d.Arm(api.Crash{At: n + sheets + 3})
+		if e := jour.Commit(d, l...); e != api.ErrCrash {
+			t.Fatal(n, e)
+		}
+		if !bytes.Equal(d.Read(2+sheets), full(1)) || !bytes.Equal(d.Read(1), text("mark\x00"+string([]byte{byte(n)}))) {
+			t.Error(n, "the log")
+		}
+		for i := range 600 {
+			if jour.Read(d, i)[0] != 0 {
+				t.Fatal(n, "a place was written")
+			}
+		}
+		d.Restart()
+		if e := jour.Open(d); e != api.OK || d.Ops() != n+3 {
+			t.Error(n, e, d.Ops())
+		}
+		d.Restart()
+		for _, w := range l {
+			if !bytes.Equal(jour.Read(d, w.At), w.Data) {
+				t.Fatal(n, w.At)
+			}
+		}
+	}
+}
+
 // keeps is the lists of what may be kept that are tried at each crash.
 func keeps() [][]bool {
 	all, even, odd := make([]bool, 400), make([]bool, 400), make([]bool, 400)

@@ -173,6 +173,8 @@ func TestReadRefuses(t *testing.T) {
 		{files(atom.Seq(0x30, atom.Text(strings.Repeat("x", 65)), size, dig)), api.ErrForm},
 		{files(atom.Seq(0x30, path, size, atom.Octets(make([]byte, 31)))), api.ErrForm},
 		{files(atom.Seq(0x30, path, size, atom.Bits(digest(nil)))), api.ErrForm},
+		{files(atom.Seq(0x30, path, atom.Octets(nil), dig)), api.ErrForm},
+		{files(atom.Seq(0x30, path, api.Node{Tag: 2, Body: []byte{255}}, dig)), api.ErrForm},
 		{files(atom.Seq(0x30, path, atom.Small(1<<63), dig)), api.ErrForm},
 		{files(atom.Seq(0x30, path, atom.Small(math.MaxUint64), dig)), api.ErrForm},
 		{files(atom.Seq(0x30, path, atom.Small(math.MaxInt64), dig)), api.ErrLarge},

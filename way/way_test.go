@@ -294,6 +294,11 @@ func TestAllLeadNowhere(t *testing.T) {
 	if got, ok := way.Find(c, certs, []api.Cert{anchor, anchor, anchor, anchor}, nil, now); ok || got != nil {
 		t.Error("a way to nowhere")
 	}
+	// As many as may be, and the last of each is the one.
+	m, r := root.signs(2, mid, sample.Basic(-1)), root.signs(1, root, sample.Basic(-1))
+	c = mid.signs(51, leaf)
+	got, ok := way.Find(c, append(slices.Clone(certs[:7]), m), []api.Cert{anchor, anchor, anchor, r}, nil, now)
+	same(t, got, ok, c, m, r)
 	many := slices.Concat(certs, certs)
 	way.Find(c, many, []api.Cert{anchor}, nil, now)
 	way.Find(c, certs, many, nil, now)
