@@ -19,8 +19,8 @@ type fate struct {
 // plan is what is written, and what the slots hold behind it.
 type plan struct {
 	nodes  [slots]node.Node
-	used   [slots]int // 1 where a file had it at the beginning, or it has been given
-	free   []int      // places that have not been given
+	used   [slots]bool // had by a file at the beginning, or given
+	free   []int       // places that have not been given
 	writes []api.Write
 }
 
@@ -58,7 +58,7 @@ func (f *FS) reckon(fates map[string]fate) (plan, bool) {
 	}
 	p.free = free
 	for slot := range f.files() {
-		p.used[slot] = 1
+		p.used[slot] = true
 	}
 	names := slices.Sorted(maps.Keys(fates))
 	for _, name := range names {
@@ -77,14 +77,11 @@ func (f *FS) reckon(fates map[string]fate) (plan, bool) {
 
 // put plans a file, in the slot it had, or (-1) in a new one; false, if there is none.
 func (p *plan) put(slot int, name string, data []byte) bool {
-	for k := 0; slot < 0; k++ {
-		if k == slots {
-			return false
-		}
-		if p.used[k] == 0 {
-			p.used[k] = 1
-			slot = k
-		}
+	if slot < 0 {
+		slot = p.give()
+	}
+	if slot < 0 {
+		return false
 	}
 	n := node.Node{Name: name, Size: len(data)}
 	for at := 0; at < len(data); at += api.Sector {
@@ -95,6 +92,17 @@ func (p *plan) put(slot int, name string, data []byte) bool {
 	p.nodes[slot] = n
 	p.write(slot, node.Bytes(n))
 	return true
+}
+
+// give gives the first slot that may be given; -1, if there is none.
+func (p *plan) give() int {
+	for slot, used := range p.used {
+		if !used {
+			p.used[slot] = true
+			return slot
+		}
+	}
+	return -1
 }
 
 // write plans one place: these bytes, and noughts.
