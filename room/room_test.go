@@ -115,6 +115,8 @@ func TestUnchanged(t *testing.T) {
 	}
 	for _, many := range []int{-5, math.MinInt, math.MaxInt, 3000} {
 		room.Free(l, many)
-		room.Take(l, many, 1)
+		if _, ok := room.Take(l, many, 0); ok {
+			t.Error(many)
+		}
 	}
 }
